@@ -1,0 +1,1 @@
+"""Owinghall: houses on a web that hold coins or owe."""

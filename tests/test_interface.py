@@ -1,0 +1,27 @@
+"""The names and arguments of the interface are there as the document tells them."""
+
+import importlib
+import inspect
+import unittest
+
+INTERFACE = [
+    ("webs", "made", ["houses", "ties"]),
+    ("webs", "between", ["web", "one", "other"]),
+    ("webs", "degree", ["web", "house"]),
+    ("webs", "rings", ["web"]),
+    ("lendings", "lent", ["web", "standing", "script"]),
+    ("lendings", "coins", ["standing"]),
+    ("lendings", "less", ["one", "other"]),
+]
+
+
+class InterfaceTest(unittest.TestCase):
+    def test_names_and_arguments(self):
+        for file, name, arguments in INTERFACE:
+            with self.subTest(file=file, name=name):
+                function = getattr(importlib.import_module(f"owinghall.{file}"), name)
+                self.assertEqual(list(inspect.signature(function).parameters), arguments)
+
+
+if __name__ == "__main__":
+    unittest.main()
