@@ -20,6 +20,15 @@ def ends_across(ties, house):
     return [b for a, b in ties if a == house] + [a for a, b in ties if b == house]
 
 
+def is_joined(houses, ties):
+    """Whether one piece is left when the pieces at both ends of each tie are made one."""
+    piece = list(range(houses))
+    for one, other in ties:
+        gone, kept = piece[one], piece[other]
+        piece = [kept if mark == gone else mark for mark in piece]
+    return len(set(piece)) == 1
+
+
 def draw(seed, many, reach):
     """The same numbers for the same seed, so that a failing test fails each time."""
     source = random.Random(seed)

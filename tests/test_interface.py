@@ -12,6 +12,15 @@ INTERFACE = [
     ("lendings", "lent", ["web", "standing", "script"]),
     ("lendings", "coins", ["standing"]),
     ("lendings", "less", ["one", "other"]),
+    ("tables", "small_table", ["web"]),
+    ("tables", "det", ["table"]),
+    ("tables", "adjoint", ["table"]),
+    ("weighing", "kinds", ["web"]),
+    ("weighing", "alike", ["web", "one", "other"]),
+    ("weighing", "shows", ["web", "one", "other", "paper"]),
+    ("queues", "queue", ["web", "standing", "house"]),
+    ("queues", "outside", ["web", "standing", "house"]),
+    ("queues", "is_plain", ["web", "standing", "house"]),
 ]
 
 

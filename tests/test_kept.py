@@ -5,7 +5,10 @@ import unittest
 
 from owinghall.errors import OwingError
 from owinghall.lendings import coins, lent, less
+from owinghall.queues import is_plain, outside, queue
+from owinghall.tables import adjoint, det, small_table
 from owinghall.webs import between, degree, made, rings
+from owinghall.weighing import alike, kinds, shows
 from tests.samples import ALL, BIG, KITE
 
 
@@ -14,6 +17,60 @@ def asked(question, handed):
         return question(*handed)
     except OwingError as refusal:
         return type(refusal)
+
+
+def lists_in(thing):
+    """Each list in a thing, itself among them, also within lists and tuples."""
+    if not isinstance(thing, (list, tuple)):
+        return []
+    told = [thing] if isinstance(thing, list) else []
+    for part in thing:
+        told += lists_in(part)
+    return told
+
+
+def spoil(thing):
+    for held in lists_in(thing):
+        held.append(5)
+        held[0] = 77
+
+
+def stage_two(web, standing, script):
+    """The questions of tables, weighing and queues about one web."""
+    houses = web[0]
+    last = houses - 1
+    table = [[k * standing[0] + i for k in range(houses)] for i in range(houses)]
+    moved = [standing[0] + 1] + standing[1:-1] + [standing[-1] - 1]
+    few = [k % 2 for k in range(houses)]
+    return [
+        (small_table, [web]),
+        (kinds, [web]),
+        (det, [table]),
+        (det, [[]]),
+        (adjoint, [table]),
+        (adjoint, [[]]),
+        (adjoint, [[[7]]]),
+        (alike, [web, standing, script]),
+        (alike, [web, standing, standing]),
+        (alike, [web, standing, lent(web, standing, script)]),
+        (alike, [web, standing, moved]),
+        (alike, [web, standing[1:], script]),
+        (alike, [web, standing, script + [0]]),
+        (shows, [web, standing, script, ("sums",)]),
+        (shows, [web, standing, lent(web, standing, script), ("lent", script)]),
+        (shows, [web, standing, script, ("lent", script + [1])]),
+        (shows, [web, standing, moved, ("weighed", 3, [1] * houses)]),
+        (shows, [web, standing, moved, ("weighed", 0, script)]),
+        (shows, [web, standing, [], ("lent", script)]),
+        (queue, [web, few, last]),
+        (queue, [web, standing, 0]),
+        (queue, [web, few, houses]),
+        (outside, [web, few, last]),
+        (outside, [web, standing, 0]),
+        (outside, [web, standing + [0], 0]),
+        (is_plain, [web, few, last]),
+        (is_plain, [web, few, -1]),
+    ]
 
 
 def questions():
@@ -42,6 +99,7 @@ def questions():
             (less, [standing, [0] * houses]),
             (less, [standing, []]),
         ]
+        told += stage_two(web, standing, script)
     # Copies, so that no two questions share a list that a test changes.
     return [(question, copy.deepcopy(handed)) for question, handed in told]
 
@@ -63,23 +121,22 @@ class KeptTest(unittest.TestCase):
     def test_a_told_list_is_the_askers_own(self):
         for question, handed in questions():
             told = asked(question, handed)
-            if not isinstance(told, list):
-                continue
             before, due = copy.deepcopy(handed), copy.deepcopy(told)
-            self.assertFalse([thing for thing in handed if thing is told])
-            told[0] += 1
-            told.append(5)
+            spoil(told)
             self.assertEqual(handed, before)
             self.assertEqual(asked(question, handed), due)
+
+    def test_no_two_lists_of_what_is_told_are_one(self):
+        for question, handed in questions():
+            told = lists_in(asked(question, handed)) + lists_in(asked(question, handed))
+            self.assertEqual(len({id(thing) for thing in told}), len(told))
+            self.assertFalse({id(thing) for thing in told} & {id(thing) for thing in lists_in(handed)})
 
     def test_what_was_told_stays_when_what_was_handed_in_changes(self):
         for question, handed in questions():
             told = asked(question, handed)
             due = copy.deepcopy(told)
-            for thing in handed:
-                if isinstance(thing, list):
-                    thing.append(0)
-                    thing[0] = 77
+            spoil(handed)
             self.assertEqual(told, due)
 
     def test_one_list_at_both_places(self):
@@ -87,6 +144,8 @@ class KeptTest(unittest.TestCase):
         both = [4, -1, 0, 2]
         self.assertEqual(lent(web, both, both), lent(web, [4, -1, 0, 2], [4, -1, 0, 2]))
         self.assertEqual(less(both, both), [0, 0, 0, 0])
+        self.assertEqual(alike(web, both, both), ("lent", [0, 0, 0, 0]))
+        self.assertIs(shows(web, both, both, ("lent", both)), False)
         self.assertEqual(both, [4, -1, 0, 2])
 
     def test_a_web_holds_no_list_that_was_handed_in(self):

@@ -30,6 +30,7 @@ METHODS = set(
     items join keys ljust lower lstrip partition pop remove replace reverse rfind rjust rpartition rsplit rstrip
     setdefault split splitlines startswith strip update upper values zfill bit_length""".split()
 )
+CHANGES = set("append clear extend insert pop remove reverse setdefault update".split())
 UNUSED_WORDS = set(
     """type typing typing_extensions enum Enum IntEnum StrEnum Flag IntFlag Generic Protocol ABC ABCMeta namedtuple
     NamedTuple TypedDict TYPE_CHECKING abstractmethod""".split()
@@ -40,6 +41,9 @@ UNUSED_NAMES = set(
     builtins compile copyright credits delattr dir eval exec exit gc getattr globals hasattr help id importlib license
     locals methodcaller os quit setattr super type vars sys""".split()
 )
+WALKED = set("zip enumerate reversed range".split())
+WALKED_METHODS = set("items keys values".split())
+WALKERS = set("list tuple dict sorted sum any all enumerate zip min max".split())
 SPECIAL = ("__init__", "__eq__", "__repr__", "__str__", "__len__", "__all__", "__version__")
 
 
@@ -58,6 +62,39 @@ def bound_names(tree):
             told.append((node.arg, node.lineno))
         elif isinstance(node, ast.Name) and isinstance(node.ctx, ast.Store):
             told.append((node.id, node.lineno))
+    return told
+
+
+def is_walk(node):
+    """Whether the node is a call of which the outcome must be walked on the spot."""
+    if not isinstance(node, ast.Call):
+        return False
+    if isinstance(node.func, ast.Name):
+        return node.func.id in WALKED
+    return isinstance(node.func, ast.Attribute) and node.func.attr in WALKED_METHODS
+
+
+def walked_places(tree):
+    """The nodes that stand where something is walked on the spot."""
+    told = []
+    for node in ast.walk(tree):
+        if isinstance(node, (ast.For, ast.comprehension)):
+            told.append(node.iter)
+        elif isinstance(node, ast.Call) and isinstance(node.func, ast.Name) and node.func.id in WALKERS:
+            told += node.args[:1]
+        elif isinstance(node, ast.Call) and isinstance(node.func, ast.Attribute) and node.func.attr == "join":
+            told += node.args
+    return told
+
+
+def changed_names(node):
+    """The names of which a part is set, or on which a method that changes is called, within the node."""
+    told = []
+    for part in ast.walk(node):
+        if isinstance(part, ast.Subscript) and isinstance(part.ctx, ast.Store):
+            told.append(ast.unparse(part.value))
+        elif isinstance(part, ast.Call) and isinstance(part.func, ast.Attribute) and part.func.attr in CHANGES:
+            told.append(ast.unparse(part.func.value))
     return told
 
 
@@ -140,6 +177,33 @@ class LanguageTest(unittest.TestCase):
                 beside = any(isinstance(side, ast.Constant) and isinstance(side.value, (bool, type(None)))
                              for side in sides)
                 self.fine(beside, path, node.lineno, "L20")
+
+    def test_walks(self):
+        for path, tree in self.trees.items():
+            places = walked_places(tree)
+            for node in ast.walk(tree):
+                if is_walk(node):
+                    self.fine(any(node is place for place in places), path, node.lineno, "L23 walked at once")
+                if isinstance(node, ast.For):
+                    source = node.iter.args if isinstance(node.iter, ast.Call) else [node.iter]
+                    walked = [ast.unparse(part) for part in source if is_walk(node.iter) or part is node.iter]
+                    kept = not set(walked) & set(changed_names(node))
+                    self.fine(kept, path, node.lineno, "L23 changed in its walk")
+
+    def test_sets(self):
+        for path, tree in self.trees.items():
+            held = []
+            for node in ast.walk(tree):
+                if isinstance(node, ast.Compare):
+                    held += [node.left] + node.comparators
+                elif isinstance(node, ast.Call) and isinstance(node.func, ast.Name):
+                    held += node.args if node.func.id in ("sorted", "len") and not node.keywords else []
+                elif isinstance(node, ast.BinOp) and isinstance(node.op, (ast.Sub, ast.BitAnd, ast.BitOr, ast.BitXor)):
+                    held += [node.left, node.right]
+            for node in ast.walk(tree):
+                made = isinstance(node, ast.Call) and isinstance(node.func, ast.Name) and node.func.id == "set"
+                if made or isinstance(node, ast.Set):
+                    self.fine(any(node is place for place in held), path, node.lineno, "L24")
 
     def test_functions_and_classes(self):
         for path, node in self.nodes():

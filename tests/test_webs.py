@@ -3,18 +3,9 @@ import unittest
 
 from owinghall.errors import BadHouse, BadWeb, Parted
 from owinghall.webs import between, degree, made, rings
-from tests.samples import ALL, BIG, FULL, KITE, ONE, PATH, RING, TRIANGLE, ends_across
+from tests.samples import ALL, BIG, FULL, KITE, ONE, PATH, RING, TRIANGLE, ends_across, is_joined
 
 NO_HOUSES_OF_FOUR = [-1, 4, 5, -4, BIG, -BIG]
-
-
-def is_joined(houses, ties):
-    """Whether one piece is left when the pieces at both ends of each tie are made one."""
-    piece = list(range(houses))
-    for one, other in ties:
-        gone, kept = piece[one], piece[other]
-        piece = [kept if mark == gone else mark for mark in piece]
-    return len(set(piece)) == 1
 
 
 class MadeTest(unittest.TestCase):
