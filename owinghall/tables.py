@@ -4,11 +4,15 @@ from owinghall.webs import between, degree
 
 
 def small_table(web):
-    return [small_row(web, house) for house in range(1, web[0])]
+    return table_among(web, list(range(1, web[0])))
 
 
-def small_row(web, house):
-    return [degree(web, house) if other == house else -between(web, house, other) for other in range(1, web[0])]
+def table_among(web, houses):
+    return [row_among(web, house, houses) for house in houses]
+
+
+def row_among(web, house, houses):
+    return [degree(web, house) if other == house else -between(web, house, other) for other in houses]
 
 
 def det(table):

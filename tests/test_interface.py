@@ -21,6 +21,16 @@ INTERFACE = [
     ("queues", "queue", ["web", "standing", "house"]),
     ("queues", "outside", ["web", "standing", "house"]),
     ("queues", "is_plain", ["web", "standing", "house"]),
+    ("plains", "plain", ["web", "standing", "house"]),
+    ("clearing", "paper", ["web", "standing"]),
+    ("clearing", "is_cleared", ["web", "standing"]),
+    ("clearing", "clears", ["web", "standing", "script"]),
+    ("clearing", "holds", ["web", "standing", "script", "order"]),
+    ("bounds", "bound", ["web", "order"]),
+    ("bounds", "middle", ["web"]),
+    ("bounds", "bounds", ["web"]),
+    ("bounds", "room", ["web", "standing"]),
+    ("ranks", "rank", ["web", "standing"]),
 ]
 
 

@@ -3,13 +3,17 @@
 import copy
 import unittest
 
+from owinghall.bounds import bound, bounds, middle, room
+from owinghall.clearing import clears, holds, is_cleared, paper
 from owinghall.errors import OwingError
 from owinghall.lendings import coins, lent, less
+from owinghall.plains import plain
 from owinghall.queues import is_plain, outside, queue
+from owinghall.ranks import rank
 from owinghall.tables import adjoint, det, small_table
 from owinghall.webs import between, degree, made, rings
 from owinghall.weighing import alike, kinds, shows
-from tests.samples import ALL, BIG, KITE
+from tests.samples import ALL, BIG, KITE, PromptTest
 
 
 def asked(question, handed):
@@ -73,6 +77,47 @@ def stage_two(web, standing, script):
     ]
 
 
+def stage_three(web, standing, script):
+    """The questions of plains, clearing, bounds and ranks about one web."""
+    houses = web[0]
+    last = houses - 1
+    plain_one = [0] * last + [-3]
+    owing = [-number for number in standing]
+    order = [(house + 1) % houses for house in range(houses)]
+    return [
+        (plain, [web, standing, last]),
+        (plain, [web, owing, 0]),
+        (plain, [web, plain_one, last]),
+        (plain, [web, standing, houses]),
+        (plain, [web, standing[1:], 0]),
+        (paper, [web, standing]),
+        (paper, [web, owing]),
+        (paper, [web, plain_one]),
+        (paper, [web, standing + [0]]),
+        (is_cleared, [web, standing]),
+        (is_cleared, [web, []]),
+        (clears, [web, standing, script]),
+        (clears, [web, standing, script[1:]]),
+        (clears, [web, standing[1:], script]),
+        (holds, [web, owing, script, order]),
+        (holds, [web, standing, script, order]),
+        (holds, [web, owing, script, order + [0]]),
+        (holds, [web, owing[1:], script, order]),
+        (bound, [web, order]),
+        (bound, [web, order[1:]]),
+        (middle, [web]),
+        (bounds, [web]),
+        (room, [web, standing]),
+        (room, [web, owing]),
+        (room, [web, plain_one]),
+        (room, [web, []]),
+        (rank, [web, standing]),
+        (rank, [web, owing]),
+        (rank, [web, [1] + [0] * last]),
+        (rank, [web, standing[1:]]),
+    ]
+
+
 def questions():
     """Each question with what is handed in, ordinary and refused."""
     told = []
@@ -99,12 +144,12 @@ def questions():
             (less, [standing, [0] * houses]),
             (less, [standing, []]),
         ]
-        told += stage_two(web, standing, script)
+        told += stage_two(web, standing, script) + stage_three(web, standing, script)
     # Copies, so that no two questions share a list that a test changes.
     return [(question, copy.deepcopy(handed)) for question, handed in told]
 
 
-class KeptTest(unittest.TestCase):
+class KeptTest(PromptTest):
     def test_what_is_handed_in_is_the_same_afterwards(self):
         for question, handed in questions():
             before = copy.deepcopy(handed)
@@ -147,6 +192,13 @@ class KeptTest(unittest.TestCase):
         self.assertEqual(alike(web, both, both), ("lent", [0, 0, 0, 0]))
         self.assertIs(shows(web, both, both, ("lent", both)), False)
         self.assertEqual(both, [4, -1, 0, 2])
+
+    def test_one_list_as_standing_script_and_order(self):
+        web = made(*KITE)
+        both = [3, 0, 2, 1]
+        self.assertIs(clears(web, both, both), clears(web, [3, 0, 2, 1], [3, 0, 2, 1]))
+        self.assertIs(holds(web, both, both, both), holds(web, [3, 0, 2, 1], [3, 0, 2, 1], [3, 0, 2, 1]))
+        self.assertEqual(both, [3, 0, 2, 1])
 
     def test_a_web_holds_no_list_that_was_handed_in(self):
         ties = [(1, 0), (1, 2)]

@@ -4,16 +4,7 @@ import unittest
 from owinghall.errors import BadStanding
 from owinghall.lendings import coins, lent, less
 from owinghall.webs import made
-from tests.samples import ALL, BIG, DOUBLE, KITE, ONE, PATH, TRIANGLE, draw, ends_across
-
-
-def behind_by_point_seven(houses, ties, standing, script):
-    """The standing behind a script, house by house in the document's words."""
-    told = []
-    for house in range(houses):
-        across = ends_across(ties, house)
-        told.append(standing[house] - len(across) * script[house] + sum(script[end] for end in across))
-    return told
+from tests.samples import ALL, BIG, DOUBLE, KITE, ONE, PATH, TRIANGLE, behind_by_point_seven, draw
 
 
 class LentTest(unittest.TestCase):

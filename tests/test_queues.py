@@ -8,30 +8,11 @@ from owinghall.lendings import lent
 from owinghall.queues import is_plain, outside, queue
 from owinghall.webs import made
 from owinghall.weighing import alike, kinds
-from tests.samples import ALL, BIG, DOUBLE, FULL, KITE, ONE, PATH, RING, TRIANGLE, draw, ends_across
+from tests.samples import (
+    ALL, BIG, DOUBLE, FULL, KITE, ONE, PATH, RING, TRIANGLE, draw, groups_without, queue_by_point_twelve,
+)
 
 STAR = (4, [(0, 1), (0, 2), (0, 3)])
-
-
-def queue_by_point_twelve(houses, ties, standing, house):
-    """The queue in the document's words: each time all that may join are looked for, and the least one joins."""
-    told = [house]
-    while True:
-        may_join = []
-        for other in range(houses):
-            inside = [end for end in ends_across(ties, other) if end in told]
-            if other not in told and standing[other] < len(inside):
-                may_join.append(other)
-        if not may_join:
-            return told
-        told.append(min(may_join))
-
-
-def groups_without(houses, house):
-    rest = [other for other in range(houses) if other != house]
-    for many in range(1, houses):
-        for group in itertools.combinations(rest, many):
-            yield list(group)
 
 
 def can_lend(web, standing, group):

@@ -9,10 +9,11 @@ from owinghall.lendings import lent
 from owinghall.tables import adjoint, small_table
 from owinghall.webs import made
 from owinghall.weighing import alike, kinds, shows
-from tests.samples import ALL, BIG, DOUBLE, FULL, KITE, ONE, PATH, RING, TRIANGLE, draw, ends_across, is_joined
+from tests.samples import (
+    ALL, BIG, DOUBLE, FULL, KITE, ONE, PATH, RING, SQUARE, TRIANGLE, WHOLE_FOUR, draw, ends_across, is_joined,
+    with_sum_of, wrong_lengths,
+)
 
-SQUARE = (4, [(0, 1), (1, 2), (2, 3), (0, 3)])
-WHOLE_FOUR = (4, list(itertools.combinations(range(4), 2)))
 SMALL = [ONE, PATH, DOUBLE, TRIANGLE, KITE, SQUARE, WHOLE_FOUR]
 
 
@@ -34,11 +35,6 @@ def weighed_by_point_ten(houses, ties, one, other, m, weights):
     return (first - second) % m != 0
 
 
-def with_sum_of(standing, sample):
-    """The standing, with house 0 changed so that its sum is that of the sample."""
-    return [standing[0] + sum(sample) - sum(standing)] + standing[1:]
-
-
 def pairs(shape, reach, many):
     """Standings of unlike sums, of like sums, and such between which a script leads."""
     houses, ties = shape
@@ -48,10 +44,6 @@ def pairs(shape, reach, many):
         yield one, other
         yield one, with_sum_of(other, one)
         yield one, lent(made(*shape), one, draw(f"script {seed}", houses, reach))
-
-
-def wrong_lengths(houses):
-    return [[0] * k for k in range(houses + 3) if k != houses] + [[BIG] * (houses + 20)]
 
 
 class KindsTest(unittest.TestCase):
